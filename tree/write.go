@@ -7,9 +7,10 @@ import (
 	"lustrum/api"
 )
 
-// writer writes a program; it throws what cannot be written.
+// writer writes a program, or a term alone; it throws what cannot be written.
 type writer struct {
 	text strings.Builder
+	most int // bytes of the text
 	deep int // terms that are open
 }
 
@@ -18,7 +19,7 @@ func (w *writer) fail() { panic(thrown{api.ErrShape}) }
 // put asks for the bound ahead of writing: what is given might be more than memory holds, or have parts that share theirs and are without end.
 func (w *writer) put(texts ...string) {
 	for _, s := range texts {
-		if w.text.Len()+len(s) > api.MaxSource {
+		if len(s) > w.most-w.text.Len() {
 			w.fail()
 		}
 		w.text.WriteString(s)
@@ -121,15 +122,15 @@ func (w *writer) term(e Expr, least int) {
 	w.deep--
 }
 
-// shape of a term, which must have as many parts as its operator.
+// shape of a term, which must be formed as its operator's are.
 func (w *writer) shape(e Expr) shape {
+	if !Formed(e) {
+		w.fail()
+	}
 	if e.Op == "call" {
 		return shape{level: levelAtom}
 	}
-	s, ok := shapeOf(e.Op)
-	if !ok || len(e.L) != len(s.parts) {
-		w.fail()
-	}
+	s, _ := shapeOf(e.Op)
 	return s
 }
 
