@@ -13,6 +13,7 @@ type checker struct {
 	nodes     map[string]sign // those ahead
 	kinds     map[string]int  // of the names of the node that it is in
 	unset     map[string]int  // of those that an equation is still to set
+	parts     []int           // the types of terms of one value, as they were gone through
 }
 
 func newChecker() *checker {
@@ -94,6 +95,7 @@ func (c *checker) value(e tree.Expr) int {
 	if len(l) != 1 {
 		panic(wrongType{})
 	}
+	c.parts = append(c.parts, l[0])
 	return l[0]
 }
 

@@ -59,5 +59,33 @@ func TestTermsBounded(t *testing.T) {
 		if l, err := Terms(nil, terms); l != nil || err != api.ErrBound {
 			t.Errorf("%d: %v, %v", i, l, err)
 		}
+		if l, err := Parts(nil, terms); l != nil || err != api.ErrBound {
+			t.Errorf("%d: %v, %v", i, l, err)
+		}
+	}
+}
+
+func TestPartsOfTerms(t *testing.T) {
+	kinds := map[string]int{"i": api.Int, "b": api.Bool}
+	i, b := tree.Expr{Op: "name", S: "i"}, tree.Expr{Op: "name", S: "b"}
+	op := func(op string, l ...tree.Expr) tree.Expr { return tree.Expr{Op: op, L: l} }
+	for _, c := range []struct {
+		l    []tree.Expr
+		want []int
+		err  error
+	}{
+		{nil, nil, nil},
+		{[]tree.Expr{b, i}, []int{api.Bool, api.Int}, nil},
+		{[]tree.Expr{op("<", op("neg", i), i)}, []int{api.Int, api.Int, api.Int, api.Bool}, nil},
+		{[]tree.Expr{op("if", op("=", i, i), b, op("pre", b)), op("true"), op("fby", i, i)}, []int{api.Int, api.Int, api.Bool, api.Bool, api.Bool, api.Bool, api.Bool, api.Bool, api.Int, api.Int, api.Int}, nil},
+		{[]tree.Expr{i, op("+", i, b)}, nil, api.ErrType},
+		{[]tree.Expr{op("neg", tree.Expr{Op: "name", S: "zz"}), op("+", i, b)}, nil, api.ErrName},
+		{[]tree.Expr{{Op: "call", S: "i"}}, nil, api.ErrName},
+		{[]tree.Expr{{}}, nil, api.ErrType},
+	} {
+		got, err := Parts(kinds, c.l)
+		if len(got) != len(c.want) || len(got) > 0 && !reflect.DeepEqual(got, c.want) || err != c.err {
+			t.Errorf("%v: %v, %v, want %v, %v", c.l, got, err, c.want, c.err)
+		}
 	}
 }
