@@ -4,157 +4,20 @@ import (
 	"math/rand"
 	"reflect"
 	"slices"
-	"strconv"
 	"testing"
 
 	"lustrum/api"
 	"lustrum/flat"
 	"lustrum/order"
+	"lustrum/sample"
 	"lustrum/tree"
 	"lustrum/types"
 )
 
-// declared is a flow that randomly has promised: it is late by at most so much.
-type declared struct {
-	name       string
-	kind, late int
-}
-
-// randomly makes flat programs that order.Check finds right.
-type randomly struct {
-	*rand.Rand
-	now   []declared // what may stand where it is needed at once
-	later []declared // what may stand below a pre
-	parts int        // that it may still make, more or less
-	zeros int        // of 10 divisions, how many are by anything
-}
-
-func (r *randomly) pick(l ...string) string { return l[r.Intn(len(l))] }
-
-func op(op string, l ...tree.Expr) tree.Expr { return tree.Expr{Op: op, L: l} }
-
-func num(n int) tree.Expr { return tree.Expr{Op: "int", N: n} }
-
-func name(s string) tree.Expr { return tree.Expr{Op: "name", S: s} }
-
-func (r *randomly) atom(kind, late int) tree.Expr {
-	l := slices.DeleteFunc(slices.Clone(r.now), func(d declared) bool { return d.kind != kind || d.late > late })
-	switch {
-	case len(l) > 0 && r.Intn(5) > 0:
-		return name(l[r.Intn(len(l))].name)
-	case kind == api.Int:
-		return num(r.Intn(128) >> r.Intn(8))
-	}
-	return op(r.pick("true", "false"))
-}
-
-// past is what may stand below a pre: it must not be late itself.
-func (r *randomly) past(kind int) tree.Expr {
-	now := r.now
-	r.now = r.later
-	e := r.term(kind, 0)
-	r.now = now
-	return e
-}
-
-func (r *randomly) division(late int) tree.Expr {
-	by := op("+", num(1+r.Intn(9)), op("*", num(0), r.term(api.Int, late)))
-	if r.Intn(10) < r.zeros {
-		by = r.term(api.Int, late)
-	}
-	return op(r.pick("/", "mod"), r.term(api.Int, late), by)
-}
-
-// timed terms; whatever is late may stand behind an arrow.
-func (r *randomly) timed(kind, late int) tree.Expr {
-	switch n := r.Intn(5); {
-	case n == 0 && late > 0:
-		return op("pre", r.past(kind))
-	case n < 2:
-		return op("fby", r.term(kind, late), r.past(kind))
-	case n == 2:
-		return op("->", r.term(kind, late), op("pre", r.past(kind)))
-	}
-	return op("->", r.term(kind, late), r.term(kind, 1))
-}
-
-// term that is late by at most so much.
-func (r *randomly) term(kind, late int) tree.Expr {
-	r.parts--
-	if r.parts < 0 || r.Intn(5) == 0 {
-		return r.atom(kind, late)
-	}
-	a := func() tree.Expr { return r.term(kind, late) }
-	switch {
-	case r.Intn(3) == 0:
-		return r.timed(kind, late)
-	case r.Intn(5) == 0:
-		return op("if", r.term(api.Bool, late), a(), a())
-	case kind == api.Int && r.Intn(4) == 0:
-		return op("neg", a())
-	case kind == api.Int && r.Intn(2) == 0:
-		return r.division(late)
-	case kind == api.Int:
-		return op(r.pick("+", "-", "*"), a(), a())
-	case r.Intn(4) == 0:
-		return op("not", a())
-	case r.Intn(2) == 0:
-		return op(r.pick("and", "or", "xor", "=>", "=", "<>"), a(), a())
-	}
-	return op(r.pick("<", "<=", ">", ">=", "=", "<>"), r.term(api.Int, late), r.term(api.Int, late))
-}
-
-func (r *randomly) whole(kind, late int) tree.Expr {
-	r.parts = 1 + r.Intn(12)
-	return r.term(kind, late)
-}
-
-func (r *randomly) program() flat.Program {
-	p := flat.Program{In: []tree.Var{{Name: "i", Kind: api.Int}, {Name: "b", Kind: api.Bool}, {Name: "j", Kind: api.Int}}[:r.Intn(4)]}
-	r.now, r.later, r.zeros = nil, nil, r.Intn(10)
-	for _, v := range p.In {
-		r.now = append(r.now, declared{v.Name, v.Kind, 0})
-	}
-	var flows []declared
-	for i := range r.Intn(8) {
-		flows = append(flows, declared{"f" + strconv.Itoa(i), 1 + r.Intn(2), r.Intn(2)})
-	}
-	r.later = slices.Concat(r.now, flows)
-	r.Shuffle(len(flows), func(i, j int) { flows[i], flows[j] = flows[j], flows[i] })
-	for _, d := range flows {
-		p.L = append(p.L, flat.Flow{Name: d.name, Kind: d.kind, E: r.whole(d.kind, d.late)})
-		r.now = append(r.now, d)
-		if d.late == 0 && r.Intn(3) > 0 {
-			p.Out = append(p.Out, d.name)
-		}
-	}
-	for range r.Intn(3) {
-		p.Asserts = append(p.Asserts, r.whole(api.Bool, 0))
-	}
-	for range r.Intn(3) {
-		p.Checks = append(p.Checks, r.whole(api.Bool, 0))
-	}
-	r.Shuffle(len(p.L), func(i, j int) { p.L[i], p.L[j] = p.L[j], p.L[i] })
-	r.Shuffle(len(p.Out), func(i, j int) { p.Out[i], p.Out[j] = p.Out[j], p.Out[i] })
-	return p
-}
-
-// inputs of instants, of which some are 0.
-func (r *randomly) inputs(p flat.Program, instants int) [][]api.Value {
-	in := make([][]api.Value, instants)
-	for t := range in {
-		for _, v := range p.In {
-			switch {
-			case v.Kind == api.Bool:
-				in[t] = append(in[t], bit(r.Intn(2)))
-			case r.Intn(2) == 0:
-				in[t] = append(in[t], whole(r.Intn(10)))
-			default:
-				in[t] = append(in[t], whole(r.Intn(256)-128))
-			}
-		}
-	}
-	return in
+func drawn(r *rand.Rand, n int) []byte {
+	l := make([]byte, n)
+	r.Read(l)
+	return l
 }
 
 type moment struct {
@@ -388,14 +251,11 @@ func (s *seen) look(l []Tick) {
 }
 
 func TestP61P62P64Second(t *testing.T) {
-	r := &randomly{Rand: rand.New(rand.NewSource(61))}
+	r := rand.New(rand.NewSource(61))
 	var s seen
 	for range 3000 {
-		p := r.program()
-		if err := order.Check(p); err != nil {
-			t.Fatalf("%s%v", text(t, p), err)
-		}
-		s.look(sameAsSecond(t, p, r.inputs(p, r.Intn(10))))
+		p := sample.Program(drawn(r, 600))
+		s.look(sameAsSecond(t, p, sample.Inputs(drawn(r, 60), p, r.Intn(10))))
 	}
 	if s.ticks < 6000 || s.first < 100 || s.later < 100 || s.asserts < 800 || s.checks < 800 || s.outs < 6000 {
 		t.Errorf("only %+v", s)

@@ -155,28 +155,41 @@ func TestP61Values(t *testing.T) {
 func TestP61Nil(t *testing.T) {
 	p := made(t, "x: int; y: bool; z: int; u: bool; v: int; w: int", "o = 1 -> x; x = pre i + 5; y = pre b = pre b; z = x * 0; u = not y; v = 7 / x; w = x -> 3;")
 	for _, c := range nils {
-		plan, err := newPlan(p)
+		code, err := Compile(p, c.b, c.n)
 		if err != nil {
 			t.Fatal(err)
 		}
-		r := newRun(plan, c.b, c.n)
-		now := func() string {
-			var l []string
-			for _, f := range p.L {
-				l = append(l, strconv.Itoa(r.now[r.places[f.Name]]))
-			}
-			return strings.Join(l, " ")
-		}
 		n, b := strconv.Itoa(c.n), strconv.Itoa(truth(c.b))
-		r.instant(values(whole(-4), bit(0)))
-		if got, want := now(), strings.Join([]string{"1", n, b, n, b, n, n}, " "); got != want {
+		x := &instant{Code: code, first: true, memories: code.Start()[1:]}
+		x.workAll(values(whole(-4), bit(0)))
+		if got, want := ofFlows(x, p), strings.Join([]string{"1", n, b, n, b, n, n}, " "); got != want {
 			t.Errorf("nil %v: %s, want %s", c, got, want)
 		}
-		r.instant(values(whole(9), bit(1)))
-		if got, want := now(), "1 1 1 0 0 7 3"; got != want {
+		x = &instant{Code: code, memories: x.state()[1:]}
+		x.workAll(values(whole(9), bit(1)))
+		if got, want := ofFlows(x, p), "1 1 1 0 0 7 3"; got != want {
 			t.Errorf("nil %v: %s, want %s", c, got, want)
 		}
 	}
+}
+
+func countParts(e tree.Expr) int {
+	n := 1
+	for _, part := range e.L {
+		n += countParts(part)
+	}
+	return n
+}
+
+// ofFlows are the values of all flows: their whole terms are the last of their parts.
+func ofFlows(x *instant, p flat.Program) string {
+	var l []string
+	n := len(p.In)
+	for _, f := range p.L {
+		n += countParts(f.E)
+		l = append(l, strconv.Itoa(x.values[n-1]))
+	}
+	return strings.Join(l, " ")
 }
 
 // TestP61Calls: a call's flows go on from instant to instant, each call's by itself (P44).

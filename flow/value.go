@@ -1,11 +1,6 @@
 package flow
 
-import (
-	"slices"
-
-	"lustrum/api"
-	"lustrum/tree"
-)
+import "lustrum/api"
 
 // half of all ints are below 0.
 const half = 1 << (api.Bits - 1)
@@ -34,10 +29,8 @@ func isNone(v api.Value) bool {
 	return true
 }
 
-// areInputs tells whether values are as many as the inputs, and of their types.
-func areInputs(vars []tree.Var, l []api.Value) bool {
-	return slices.EqualFunc(vars, l, func(x tree.Var, v api.Value) bool { return x.Kind == v.Kind && !isNone(v) })
-}
+// isOf tells whether it is a value of a type.
+func isOf(v api.Value, kind int) bool { return v.Kind == kind && !isNone(v) }
 
 func kindsOf(l []api.Value) []int {
 	kinds := make([]int, len(l))

@@ -1,0 +1,72 @@
+package flow
+
+import (
+	"slices"
+
+	"lustrum/api"
+	"lustrum/flat"
+	"lustrum/order"
+)
+
+// Code of a program: it makes an instant of a state and of inputs. A state is a bool (1: no instant has been), and a value for each pre and each fby: what its part (of a fby: the second one) had at the last instant; in the order of flows, asserts and checks, in a term from the innermost and the left on. Nothing of a Code changes: many may have it at once.
+type Code struct {
+	*plan
+	nils map[int]int // by types
+}
+
+// Compile a program. It has Run's errors of no instants.
+func Compile(p flat.Program, nilBool bool, nilInt int) (*Code, error) {
+	if err := order.Check(p); err != nil {
+		return nil, err
+	}
+	if !isInt(nilInt) {
+		return nil, api.ErrBound
+	}
+	x, err := newPlan(p)
+	if err != nil {
+		return nil, err
+	}
+	return &Code{plan: x, nils: map[int]int{api.Bool: truth(nilBool), api.Int: nilInt}}, nil
+}
+
+// Start is the state at the beginning.
+func (c *Code) Start() []api.Value {
+	l := []api.Value{{Kind: api.Bool, N: truth(true)}}
+	for _, n := range c.kept {
+		kind := c.parts[n].kind
+		l = append(l, api.Value{Kind: kind, N: c.nils[kind]})
+	}
+	return l
+}
+
+// IsState tells whether values are as many as those of a state, and of their types.
+func (c *Code) IsState(l []api.Value) bool {
+	return len(l) > 0 && isOf(l[0], api.Bool) && c.fit(c.kept, l[1:])
+}
+
+// fit tells whether values are as many as these parts, and of their types.
+func (c *Code) fit(parts []int, l []api.Value) bool {
+	return slices.EqualFunc(parts, l, func(n int, v api.Value) bool { return isOf(v, c.parts[n].kind) })
+}
+
+// Instant of a state and of inputs: its tick, and the state behind it; a trap leaves the state as it was. ErrShape: it is no state; ErrType: they are not the inputs.
+func (c *Code) Instant(state, in []api.Value) (Tick, []api.Value, error) {
+	if !c.IsState(state) {
+		return Tick{}, nil, api.ErrShape
+	}
+	if !c.fit(c.inputs, in) {
+		return Tick{}, nil, api.ErrType
+	}
+	t, next := c.instant(state, in)
+	return t, next, nil
+}
+
+// instant of a state that is one, and of inputs that are.
+func (c *Code) instant(state, in []api.Value) (Tick, []api.Value) {
+	x := &instant{Code: c, first: state[0].N == truth(true), memories: state[1:]}
+	x.workAll(in)
+	if x.trap {
+		return Tick{Trap: true}, slices.Clone(state)
+	}
+	return x.tick(), x.state()
+}
