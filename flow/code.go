@@ -44,6 +44,9 @@ func (c *Code) IsState(l []api.Value) bool {
 	return len(l) > 0 && isOf(l[0], api.Bool) && c.fit(c.kept, l[1:])
 }
 
+// AreInputs tells whether values are as many as the inputs, and of their types.
+func (c *Code) AreInputs(l []api.Value) bool { return c.fit(c.inputs, l) }
+
 // fit tells whether values are as many as these parts, and of their types.
 func (c *Code) fit(parts []int, l []api.Value) bool {
 	return slices.EqualFunc(parts, l, func(n int, v api.Value) bool { return isOf(v, c.parts[n].kind) })
@@ -54,7 +57,7 @@ func (c *Code) Instant(state, in []api.Value) (Tick, []api.Value, error) {
 	if !c.IsState(state) {
 		return Tick{}, nil, api.ErrShape
 	}
-	if !c.fit(c.inputs, in) {
+	if !c.AreInputs(in) {
 		return Tick{}, nil, api.ErrType
 	}
 	t, next := c.instant(state, in)

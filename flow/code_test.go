@@ -64,12 +64,15 @@ func TestCodeWrong(t *testing.T) {
 		}
 	}
 	for _, wrong := range [][]api.Value{nil, in[:1], values(bit(1), whole(1)), values(whole(math.MinInt), bit(1)), append(slices.Clone(in), in...)} {
-		if k, next, err := c.Instant(state, wrong); err != api.ErrType || next != nil || !reflect.DeepEqual(k, Tick{}) {
+		if k, next, err := c.Instant(state, wrong); err != api.ErrType || next != nil || !reflect.DeepEqual(k, Tick{}) || c.AreInputs(wrong) {
 			t.Errorf("%v: %v, %v, %v", wrong, k, next, err)
 		}
 	}
 	if !c.IsState(state) || !c.IsState(values(bit(0), whole(-128), bit(1))) {
 		t.Error("states are none")
+	}
+	if !c.AreInputs(in) || !c.AreInputs(values(whole(-128), bit(0))) {
+		t.Error("inputs are none")
 	}
 	if c, err := Compile(made(t, "", "o = 1;"), false, 128); c != nil || err != api.ErrBound {
 		t.Errorf("%v, %v", c, err)
