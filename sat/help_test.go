@@ -7,6 +7,7 @@ import (
 
 	"lustrum/api"
 	"lustrum/cnf"
+	"lustrum/rup"
 )
 
 // isFault of this kind, at this place, and no error around it.
@@ -54,7 +55,7 @@ func right(t testing.TB, f cnf.Formula, a Answer) {
 			t.Fatalf("%v: %v is no model, or has a proof", f, a.Model)
 		}
 	case "no":
-		if len(a.Model) != 0 || len(a.Proof) > api.MaxClauses || !newChecker(f).takes(a.Proof) {
+		if len(a.Model) != 0 || len(a.Proof) > api.MaxClauses || !newChecker(f).takes(a.Proof) || rup.Check(f, a.Proof) != nil {
 			t.Fatalf("%v: %v is no proof, or has a model", f, a.Proof)
 		}
 	case "tired":
