@@ -5,35 +5,38 @@ import (
 
 	"lustrum/api"
 	"lustrum/flat"
-	"lustrum/order"
+	"lustrum/plan"
 )
 
 // Code of a program: it makes an instant of a state and of inputs. A state is a bool (1: no instant has been), and a value for each pre and each fby: what its part (of a fby: the second one) had at the last instant; in the order of flows, asserts and checks, in a term from the innermost and the left on. Nothing of a Code changes: many may have it at once.
 type Code struct {
-	*plan
+	plan *plan.Plan
+	does []operator  // of each part that knows nothing of time
 	nils map[int]int // by types
 }
 
 // Compile a program. It has Run's errors of no instants.
 func Compile(p flat.Program, nilBool bool, nilInt int) (*Code, error) {
-	if err := order.Check(p); err != nil {
+	x, err := plan.Of(p)
+	if err != nil {
 		return nil, err
 	}
 	if !isInt(nilInt) {
 		return nil, api.ErrBound
 	}
-	x, err := newPlan(p)
-	if err != nil {
-		return nil, err
+	c := &Code{plan: x, nils: map[int]int{api.Bool: truth(nilBool), api.Int: nilInt}}
+	all := operators()
+	for _, part := range x.Parts {
+		c.does = append(c.does, all[part.Op])
 	}
-	return &Code{plan: x, nils: map[int]int{api.Bool: truth(nilBool), api.Int: nilInt}}, nil
+	return c, nil
 }
 
 // Start is the state at the beginning.
 func (c *Code) Start() []api.Value {
 	l := []api.Value{{Kind: api.Bool, N: truth(true)}}
-	for _, n := range c.kept {
-		kind := c.parts[n].kind
+	for _, n := range c.plan.Kept {
+		kind := c.plan.Parts[n].Kind
 		l = append(l, api.Value{Kind: kind, N: c.nils[kind]})
 	}
 	return l
@@ -41,15 +44,15 @@ func (c *Code) Start() []api.Value {
 
 // IsState tells whether values are as many as those of a state, and of their types.
 func (c *Code) IsState(l []api.Value) bool {
-	return len(l) > 0 && isOf(l[0], api.Bool) && c.fit(c.kept, l[1:])
+	return len(l) > 0 && isOf(l[0], api.Bool) && c.fit(c.plan.Kept, l[1:])
 }
 
 // AreInputs tells whether values are as many as the inputs, and of their types.
-func (c *Code) AreInputs(l []api.Value) bool { return c.fit(c.inputs, l) }
+func (c *Code) AreInputs(l []api.Value) bool { return c.fit(c.plan.Inputs, l) }
 
 // fit tells whether values are as many as these parts, and of their types.
 func (c *Code) fit(parts []int, l []api.Value) bool {
-	return slices.EqualFunc(parts, l, func(n int, v api.Value) bool { return isOf(v, c.parts[n].kind) })
+	return slices.EqualFunc(parts, l, func(n int, v api.Value) bool { return isOf(v, c.plan.Parts[n].Kind) })
 }
 
 // Instant of a state and of inputs: its tick, and the state behind it; a trap leaves the state as it was. ErrShape: it is no state; ErrType: they are not the inputs.
@@ -66,7 +69,7 @@ func (c *Code) Instant(state, in []api.Value) (Tick, []api.Value, error) {
 
 // instant of a state that is one, and of inputs that are.
 func (c *Code) instant(state, in []api.Value) (Tick, []api.Value) {
-	x := &instant{Code: c, first: state[0].N == truth(true), memories: state[1:]}
+	x := newInstant(c, state)
 	x.workAll(in)
 	if x.trap {
 		return Tick{Trap: true}, slices.Clone(state)

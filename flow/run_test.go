@@ -160,12 +160,12 @@ func TestP61Nil(t *testing.T) {
 			t.Fatal(err)
 		}
 		n, b := strconv.Itoa(c.n), strconv.Itoa(truth(c.b))
-		x := &instant{Code: code, first: true, memories: code.Start()[1:]}
+		x := newInstant(code, code.Start())
 		x.workAll(values(whole(-4), bit(0)))
 		if got, want := ofFlows(x, p), strings.Join([]string{"1", n, b, n, b, n, n}, " "); got != want {
 			t.Errorf("nil %v: %s, want %s", c, got, want)
 		}
-		x = &instant{Code: code, memories: x.state()[1:]}
+		x = newInstant(code, x.state())
 		x.workAll(values(whole(9), bit(1)))
 		if got, want := ofFlows(x, p), "1 1 1 0 0 7 3"; got != want {
 			t.Errorf("nil %v: %s, want %s", c, got, want)
