@@ -5,35 +5,18 @@ import (
 	"lustrum/graph"
 )
 
-// needed gates, by their numbers. Parts are of lesser numbers than their gate, so that one way down comes to all of them.
-func needed(g *graph.Graph, roots []api.Lit) []bool {
-	l := make([]bool, g.Gates())
-	need := func(x api.Lit) { l[x/2] = true }
-	for _, x := range roots {
-		need(x)
-	}
-	for n := len(l) - 1; n > 0; n-- {
-		if a, b, ok := partsOf(g, n); l[n] && ok {
-			need(a)
-			need(b)
-		}
-	}
-	l[0] = false // what it is stands in no clause
-	return l
-}
-
 // partsOf a gate that is no input.
 func partsOf(g *graph.Graph, n int) (a, b api.Lit, ok bool) {
 	a, b, input, err := g.Parts(n)
 	return a, b, !input && err == nil
 }
 
-// numbered gates: how many variables there are, and that of each gate.
+// numbered gates, of those that are needed: how many variables there are, and that of each gate. Gate 0 has none: what it is stands in no clause.
 func numbered(needed []bool) (int, []int) {
 	last := 0
 	vars := make([]int, len(needed))
 	for n, is := range needed {
-		if is {
+		if is && n > 0 {
 			last++
 			vars[n] = last
 		}

@@ -55,6 +55,20 @@ func (g *Graph) either(a, b, c, d api.Lit) (api.Lit, error) {
 	return g.Or(x, y)
 }
 
+// needed gates. Parts are of lesser numbers than their gate, so that one way down comes to all of them.
+func (g *Graph) needed(l []api.Lit) []bool {
+	needed := make([]bool, g.Gates())
+	for _, x := range l {
+		needed[x/2] = true
+	}
+	for i := len(g.parts) - 1; i >= 0; i-- {
+		if p := g.parts[i]; needed[1+i] && !isInput(p) {
+			needed[p[0]/2], needed[p[1]/2] = true, true
+		}
+	}
+	return needed
+}
+
 // values of all gates, from gate 0 on: parts stand ahead of their gate, so that they are known when it is come to.
 func (g *Graph) values(in []bool) []bool {
 	values := make([]bool, g.Gates())

@@ -252,14 +252,3 @@ func TestP1Spoilt(t *testing.T) {
 		}
 	}
 }
-
-// TestOtherPanics: only what is thrown is taken for an error.
-func TestOtherPanics(t *testing.T) {
-	defer func() {
-		if p := recover(); p != "other" {
-			t.Errorf("%v", p)
-		}
-	}()
-	answer(func() int { panic("other") })
-	t.Error("a panic was swallowed")
-}

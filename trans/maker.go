@@ -6,6 +6,7 @@ import (
 	"lustrum/api"
 	"lustrum/graph"
 	"lustrum/plan"
+	"lustrum/throw"
 	"lustrum/word"
 )
 
@@ -42,7 +43,7 @@ func width(kind int) int {
 func (m *maker) fresh(kind int) []api.Lit {
 	l := make([]api.Lit, width(kind))
 	for i := range l {
-		l[i] = must(m.G.Input())
+		l[i] = throw.Must(m.G.Input())
 	}
 	return l
 }
@@ -70,7 +71,7 @@ func (m *maker) takeState() {
 func (m *maker) work(p *plan.Part) []api.Lit {
 	switch p.Op {
 	case "int":
-		return must(word.Const(p.N))
+		return throw.Must(word.Const(p.N))
 	case "true", "false":
 		return []api.Lit{api.Lit(p.N)}
 	case "name":
@@ -94,18 +95,16 @@ func (m *maker) behind(first, later []api.Lit) []api.Lit {
 func (m *maker) operate(p *plan.Part) []api.Lit {
 	out, trap := m.gates(p.Op, m.words(p.Of)...)
 	if p.Late {
-		trap = must(m.G.And(trap, graph.Not(m.first[0])))
+		trap = throw.Must(m.G.And(trap, graph.Not(m.first[0])))
 	}
-	m.Trap = must(m.G.Or(m.Trap, trap))
+	m.Trap = throw.Must(m.G.Or(m.Trap, trap))
 	return out
 }
 
 // gates of an operator, and what tells that it traps.
 func (m *maker) gates(op string, l ...[]api.Lit) (out []api.Lit, trap api.Lit) {
 	out, trap, err := word.Of(m.G, op, l)
-	if err != nil {
-		panic(refused{err})
-	}
+	throw.If(err)
 	return out, trap
 }
 
@@ -125,6 +124,6 @@ func (m *maker) tell() {
 	m.Next = append([]api.Lit{0}, slices.Concat(m.words(m.plan.Kept)...)...)
 	m.Assert = 1
 	for _, x := range slices.Concat(m.words(m.plan.Asserts)...) {
-		m.Assert = must(m.G.And(m.Assert, x))
+		m.Assert = throw.Must(m.G.And(m.Assert, x))
 	}
 }

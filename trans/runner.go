@@ -7,6 +7,7 @@ import (
 	"lustrum/flat"
 	"lustrum/flow"
 	"lustrum/order"
+	"lustrum/throw"
 	"lustrum/tree"
 	"lustrum/word"
 )
@@ -81,7 +82,7 @@ func (x *runner) run(in [][]bool) []flow.Tick {
 // instant by bits of inputs and of a state: its tick, and the bits of the state behind it.
 func (x *runner) instant(in, state []bool) (flow.Tick, []bool) {
 	ask := slices.Concat([]api.Lit{x.Trap, x.Assert}, x.Checks, x.Out, x.Next)
-	l := must(x.G.Eval(slices.Concat(in, state), ask))
+	l := throw.Must(x.G.Eval(slices.Concat(in, state), ask))
 	take := func(n int) []bool {
 		taken := slices.Clone(l[:n])
 		l = l[n:]
@@ -92,7 +93,7 @@ func (x *runner) instant(in, state []bool) (flow.Tick, []bool) {
 	}
 	t := flow.Tick{Assert: take(1)[0], Checks: take(len(x.Checks))}
 	for _, kind := range x.kinds {
-		t.Out = append(t.Out, must(word.Value(take(width(kind)))))
+		t.Out = append(t.Out, throw.Must(word.Value(take(width(kind)))))
 	}
 	return t, take(len(x.Next))
 }
