@@ -4,6 +4,7 @@ import (
 	"slices"
 
 	"lustrum/api"
+	"lustrum/hold"
 	"lustrum/throw"
 	"lustrum/unroll"
 )
@@ -18,10 +19,10 @@ func (s *search) byInstants(depth int) Found {
 			break
 		}
 		last, ahead := l[:len(s.last)], l[len(s.last):]
-		switch kind, m := solve(r.Graph, slices.Concat(path, last), s.effort); kind {
-		case yes:
-			return Found{Kind: wrong, Trace: s.trace(r, m)}
-		case tired:
+		switch a := throw.Must(hold.Search(r.Graph, slices.Concat(path, last), s.effort)); a.Kind {
+		case hold.Yes:
+			return Found{Kind: wrong, Trace: s.trace(r, a)}
+		case hold.Tired:
 			return Found{Kind: tired}
 		}
 		path = append(path, ahead...)
@@ -29,10 +30,10 @@ func (s *search) byInstants(depth int) Found {
 	return Found{Kind: none}
 }
 
-func (s *search) trace(r *unroll.Roll, m model) [][]api.Value {
+func (s *search) trace(r *unroll.Roll, a hold.Answer) [][]api.Value {
 	var l [][]api.Value
 	for _, in := range r.Ins {
-		l = append(l, s.inputs(m.bits(in)))
+		l = append(l, s.inputs(a.Bits(in)))
 	}
 	return l
 }

@@ -5,7 +5,7 @@ import (
 
 	"lustrum/api"
 	"lustrum/graph"
-	"lustrum/plan"
+	"lustrum/hold"
 	"lustrum/throw"
 )
 
@@ -19,8 +19,7 @@ const (
 const share = api.MaxEffort / 20
 
 func (s *search) isFew() bool {
-	hasInts := slices.ContainsFunc(s.Parts, func(p plan.Part) bool { return p.Kind == api.Int })
-	return !hasInts && len(s.Kept) <= fewMemories && len(s.Parts)-len(s.Inputs) <= fewTerms
+	return !s.HasInts() && len(s.Kept) <= fewMemories && len(s.Parts)-len(s.Inputs) <= fewTerms
 }
 
 // place is a state, and how it was reached first: behind so many instants, the last of them from which place, by which inputs.
@@ -49,7 +48,8 @@ func (s *search) byStates(depth int) Found {
 func (s *search) toNew(from *place, reached []*place) *place {
 	known := api.Lit(0)
 	for _, p := range reached {
-		known = throw.Must(s.system.G.Or(known, s.all(alike(s.system.Next, p.state))))
+		there := throw.Must(hold.All(s.system.G, hold.Alike(s.system.Next, p.state)))
+		known = throw.Must(s.system.G.Or(known, there))
 	}
 	return s.onward(from, append(slices.Clone(s.ahead), graph.Not(known)))
 }
@@ -57,44 +57,13 @@ func (s *search) toNew(from *place, reached []*place) *place {
 // onward from a place by an instant at which these literals hold: the place behind it, or nil.
 func (s *search) onward(from *place, roots []api.Lit) *place {
 	x := &s.system
-	in, ok := s.decide(slices.Concat(roots, alike(x.Mem, from.state)))
+	in, ok, err := hold.Decide(x.G, slices.Concat(roots, hold.Alike(x.Mem, from.state)), x.In, min(s.effort, share))
+	throw.If(err)
 	if !ok {
 		return nil
 	}
 	state := throw.Must(x.G.Eval(slices.Concat(in, from.state), x.Next))
 	return &place{state: state, instants: from.instants + 1, from: from, in: in}
-}
-
-// decide by which inputs all these literals can hold, if they can. Where a search tires, all inputs are tried.
-func (s *search) decide(roots []api.Lit) ([]bool, bool) {
-	g, in := s.system.G, s.system.In
-	switch kind, m := solve(g, roots, min(s.effort, share)); kind {
-	case yes:
-		return m.bits(in), true
-	case tired:
-		return tryAll(g, roots, in)
-	}
-	return nil, false
-}
-
-// alike: literals that hold where these bits are such.
-func alike(l []api.Lit, state []bool) []api.Lit {
-	out := slices.Clone(l)
-	for i, is := range state {
-		if !is {
-			out[i] = graph.Not(l[i])
-		}
-	}
-	return out
-}
-
-// all of these literals.
-func (s *search) all(l []api.Lit) api.Lit {
-	x := api.Lit(1)
-	for _, y := range l {
-		x = throw.Must(s.system.G.And(x, y))
-	}
-	return x
 }
 
 // way to a place: inputs from the beginning on.

@@ -2,6 +2,9 @@
 package plan
 
 import (
+	"slices"
+
+	"lustrum/api"
 	"lustrum/flat"
 	"lustrum/order"
 )
@@ -51,4 +54,9 @@ func Of(p flat.Program) (*Plan, error) {
 		x.Parts[i].Kind = kind
 	}
 	return x.Plan, nil
+}
+
+// HasInts tells whether one of its parts is an int.
+func (x *Plan) HasInts() bool {
+	return slices.ContainsFunc(x.Parts, func(p Part) bool { return p.Kind == api.Int })
 }

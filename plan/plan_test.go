@@ -249,3 +249,30 @@ func TestMemory(t *testing.T) {
 		t.Errorf("%+v, want %+v", *again, *want)
 	}
 }
+
+func TestHasInts(t *testing.T) {
+	for s, want := range map[string]bool{
+		"b: bool) returns (o: bool); let o = b -> pre b; check o; assert true;": false,
+		"b: bool; i: int) returns (o: bool); let o = b;":                        true,
+		"b: bool) returns (o: bool; i: int); let o = b; i = 1;":                 true,
+		"b: bool) returns (o: bool); let o = b; check o or 1 < 2;":              true,
+		"b: bool) returns (o: bool); let o = b; assert o or 1 = 2;":             true,
+		"b: bool) returns (o: bool); var p: bool; let o = p; p = b and not b;":  false,
+		") returns (o: bool); let o = false fby (if o then 1 else 2) = 1 -> o;": true,
+	} {
+		l, err := tree.Read("node n(" + s + " tel")
+		if err != nil {
+			t.Fatal(s, err)
+		}
+		p, err := flat.Make(l, "n")
+		if err != nil {
+			t.Fatal(s, err)
+		}
+		if got := planned(t, p).HasInts(); got != want {
+			t.Errorf("%s: %v", s, got)
+		}
+	}
+	if planned(t, flat.Program{}).HasInts() {
+		t.Error("of nothing")
+	}
+}

@@ -31,7 +31,7 @@ func needOf(s trans.System, asked []api.Lit) need {
 	return x
 }
 
-// behind the last instant: the state; where none has been, that of the beginning.
+// behind the last instant: the state; where none has been, that of the beginning, or any.
 func (r *Roll) behind() []api.Lit {
 	begun := len(r.States) > 0
 	if begun {
@@ -40,9 +40,12 @@ func (r *Roll) behind() []api.Lit {
 	state := make([]api.Lit, len(r.bits))
 	for i, is := range r.bits {
 		switch {
-		case is && begun:
+		case !is:
+		case begun:
 			state[i] = r.is(r.system.Next[i])
-		case is && r.system.Init[i]:
+		case r.open:
+			state[i] = throw.Must(r.Graph.Input())
+		case r.system.Init[i]:
 			state[i] = 1
 		}
 	}

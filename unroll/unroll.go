@@ -10,19 +10,25 @@ import (
 	"lustrum/trans"
 )
 
-// Roll of instants, from the beginning on. What none of the literals that are asked for hangs on, at whatever instant, is not in its graph, and stands as 0.
+// Roll of instants, from the beginning on, or from any state on. What none of the literals that are asked for hangs on, at whatever instant, is not in its graph, and stands as 0.
 type Roll struct {
 	Graph  *graph.Graph
 	Ins    [][]api.Lit // of each instant the inputs
 	States [][]api.Lit // of each instant the state ahead of it
 	system trans.System
 	asked  []api.Lit
+	open   bool // the state ahead of the first instant may be any
 	need
 	gates []api.Lit // of the last instant: what each gate of the system is in Graph
 }
 
 // New roll of a system, without instants as yet; of each instant these literals of the system are asked for. The system must stay as it is. ErrShape: one of these literals, or of the system's, is none, or its lists of a state's bits are not of one length.
-func New(s trans.System, asked []api.Lit) (*Roll, error) {
+func New(s trans.System, asked []api.Lit) (*Roll, error) { return newRoll(s, asked, false) }
+
+// Open roll of a system: as a New one, but that the state ahead of its first instant may be any; its bits are inputs of the graph.
+func Open(s trans.System, asked []api.Lit) (*Roll, error) { return newRoll(s, asked, true) }
+
+func newRoll(s trans.System, asked []api.Lit, open bool) (*Roll, error) {
 	if len(s.Next) != len(s.Mem) || len(s.Init) != len(s.Mem) {
 		return nil, api.ErrShape
 	}
@@ -30,7 +36,7 @@ func New(s trans.System, asked []api.Lit) (*Roll, error) {
 		return nil, err
 	}
 	return throw.Answer(func() *Roll {
-		return &Roll{Graph: new(graph.Graph), system: s, asked: slices.Clone(asked), need: needOf(s, asked)}
+		return &Roll{Graph: new(graph.Graph), system: s, asked: slices.Clone(asked), open: open, need: needOf(s, asked)}
 	})
 }
 

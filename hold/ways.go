@@ -1,11 +1,10 @@
-package find
+package hold
 
 import (
 	"math/bits"
 
 	"lustrum/api"
 	"lustrum/graph"
-	"lustrum/throw"
 )
 
 // within a word, each bit of which is a way of its own, so many inputs are all that they can be.
@@ -15,6 +14,7 @@ const within = 6
 type ways struct {
 	roots []api.Lit
 	words []uint64 // of each gate
+	gates []gate
 	open  []int    // inputs that may be either: the first ones are so within a word, the others count on from word to word
 	steps [][]gate // of each input that counts: the gates that hang on it, or on one that counts faster; then all gates
 }
@@ -25,9 +25,9 @@ type gate struct {
 	a, b api.Lit
 }
 
-// tryAll that inputs of a graph may be, until all roots hold: what these literals are then.
-func tryAll(g *graph.Graph, roots, l []api.Lit) ([]bool, bool) {
-	w := newWays(g, roots)
+// tryAll that inputs may be, until all roots hold: what these literals are then.
+func (w *ways) tryAll(l []api.Lit) ([]bool, bool) {
+	w.order()
 	counting := len(w.steps) - 1
 	w.work(w.steps[counting])
 	for n := 1; w.held() == 0; n++ {
@@ -48,7 +48,8 @@ func tryAll(g *graph.Graph, roots, l []api.Lit) ([]bool, bool) {
 	return out, true
 }
 
-func newWays(g *graph.Graph, roots []api.Lit) *ways {
+// newWays of the inputs that are needed, as are other gates, for the roots.
+func newWays(g *graph.Graph, roots []api.Lit, needed []bool) *ways {
 	w := &ways{roots: roots, words: make([]uint64, g.Gates())}
 	settled := make([]bool, g.Gates()) // inputs that are roots
 	for _, x := range roots {
@@ -56,23 +57,24 @@ func newWays(g *graph.Graph, roots []api.Lit) *ways {
 		w.words[x/2] = ^turn(x)
 	}
 	w.words[0] = 0
-	var all []gate
-	for n, needed := range throw.Must(g.Needs(roots)) {
+	for n, is := range needed {
 		a, b, input, err := g.Parts(n)
 		switch {
-		case !needed || err != nil:
+		case !is || err != nil:
 		case !input:
-			all = append(all, gate{n, a, b})
+			w.gates = append(w.gates, gate{n, a, b})
 		case !settled[n]:
 			w.open = append(w.open, n)
 		}
 	}
-	w.order(all)
 	return w
 }
 
+// count of ways, but no more than an int of 32 bits can be.
+func (w *ways) count() int { return 1 << min(len(w.open), 30) }
+
 // order gates by the fastest of the inputs that count on which they hang.
-func (w *ways) order(all []gate) {
+func (w *ways) order() {
 	counting := max(0, len(w.open)-within)
 	fastest := make([]int, len(w.words))
 	for n := range fastest {
@@ -86,7 +88,7 @@ func (w *ways) order(all []gate) {
 		}
 	}
 	w.steps = make([][]gate, counting+1)
-	for _, x := range all {
+	for _, x := range w.gates {
 		fastest[x.n] = min(fastest[x.a/2], fastest[x.b/2])
 		for i := fastest[x.n]; i <= counting; i++ {
 			w.steps[i] = append(w.steps[i], x)
