@@ -34,25 +34,6 @@ func refused(t testing.TB, p flat.Program, c, depth, effort, at int, want error)
 	}
 }
 
-// many inputs, all of them ints: as many as there can be.
-func many() []tree.Var {
-	var l []tree.Var
-	for n := range api.MaxParts {
-		l = append(l, tree.Var{Name: "i" + strconv.Itoa(n), Kind: api.Int})
-	}
-	return l
-}
-
-// divisions: a program of so many, no two of which are of the same two inputs.
-func divisions(n int) flat.Program {
-	p := flat.Program{In: many()}
-	for f := range n {
-		a, b := p.In[f%api.MaxParts].Name, p.In[(f+1+f/api.MaxParts)%api.MaxParts].Name
-		p.L = append(p.L, flat.Flow{Name: "f" + strconv.Itoa(f), Kind: api.Int, E: op("/", name(a), name(b))})
-	}
-	return p
-}
-
 // TestP151Programs: what is wrong with a program is told ahead of all else.
 func TestP151Programs(t *testing.T) {
 	tooBig := flat.Program{L: make([]flat.Flow, api.MaxFlat+1)}
@@ -71,7 +52,7 @@ func TestP151Programs(t *testing.T) {
 		{flat.Program{Checks: []tree.Expr{op("call")}}, -1, api.ErrShape},
 		{flat.Program{Checks: []tree.Expr{name("x")}}, -1, api.ErrShape},
 		{tooBig, -1, api.ErrBound},
-		{flat.Program{In: append(many(), tree.Var{Name: "more", Kind: api.Bool})}, -1, api.ErrBound},
+		{flat.Program{In: append(sample.Divisions(0).In, tree.Var{Name: "more", Kind: api.Bool})}, -1, api.ErrBound},
 		{flat.Program{Checks: []tree.Expr{number(1)}}, -1, api.ErrType},
 		{flat.Program{L: []flat.Flow{{Name: "x", Kind: api.Int, E: op("true")}}}, -1, api.ErrType},
 		{made(t, ibx, "o = i; x = x + 1; check b;"), 1, api.ErrCycle},
@@ -132,7 +113,7 @@ func TestP151Bound(t *testing.T) {
 
 // TestP151Gates: more of them than a graph can have, at one instant.
 func TestP151Gates(t *testing.T) {
-	p := divisions(api.MaxFlat)
+	p := sample.Divisions(api.MaxFlat)
 	p.Checks = []tree.Expr{op("true"), op("false")}
 	if _, err := trans.Make(p); err != api.ErrBound {
 		t.Fatal(err)
@@ -144,24 +125,10 @@ func TestP151Gates(t *testing.T) {
 	refused(t, p, 2, 1, 1, -1, api.ErrNone)
 }
 
-// heavy: it hangs on so many products of unlike words at each instant, but is never wrong, at sight, as long as b holds.
-func heavy(n int) flat.Program {
-	i := name("i")
-	x := op("fby", number(1), name("x"))
-	for k := range n {
-		x = op("+", op("*", x, op("+", i, number(k))), number(1))
-	}
-	return flat.Program{
-		In:      []tree.Var{{Name: "i", Kind: api.Int}, {Name: "b", Kind: api.Bool}},
-		L:       []flat.Flow{{Name: "x", Kind: api.Int, E: x}, {Name: "y", Kind: api.Bool, E: op("fby", op("true"), name("b"))}},
-		Asserts: []tree.Expr{name("b")},
-		Checks:  []tree.Expr{op("or", name("y"), op("=", name("x"), number(77))), op("or", name("y"), op("=", name("i"), number(77)))},
-	}
-}
-
 // TestP151GatesOfInstants: too many of all of them; but what is found ahead of that is found, and what nothing hangs on does not count.
 func TestP151GatesOfInstants(t *testing.T) {
-	p := heavy(60)
+	p := sample.Heavy(60)
+	p.Checks = append(p.Checks, op("or", name("y"), op("=", name("i"), number(77))))
 	s, err := trans.Make(p)
 	if err != nil || s.G.Gates() > api.MaxGates/2 || s.G.Gates() < api.MaxGates/20 {
 		t.Fatal(s.G.Gates(), err)
@@ -177,28 +144,6 @@ func TestP151GatesOfInstants(t *testing.T) {
 	told(t, p, 0, api.MaxDepth, 100, 2)
 }
 
-// spoil a program at some place, so that it may be wrong.
-func spoil(r *rand.Rand, p *flat.Program) {
-	if len(p.L) == 0 {
-		p.Out = append(p.Out, "f0")
-		return
-	}
-	e := &p.L[r.Intn(len(p.L))].E
-	for len(e.L) > 0 && r.Intn(3) > 0 {
-		e = &e.L[r.Intn(len(e.L))]
-	}
-	switch r.Intn(4) {
-	case 0:
-		*e = op("pre", *e)
-	case 1:
-		*e = name([]string{"i", "b", "f0", "f1", "f2"}[r.Intn(5)])
-	case 2:
-		e.Op = []string{"not", "neg", "+", "and", "=", "->", "fby", "if", "call", ""}[r.Intn(10)]
-	default:
-		e.L = append(e.L, number(1))
-	}
-}
-
 // TestP1Spoilt: of programs that may be wrong, the errors of flow.Run; of numbers that may be, the first error.
 func TestP1Spoilt(t *testing.T) {
 	r := rand.New(rand.NewSource(1))
@@ -206,7 +151,7 @@ func TestP1Spoilt(t *testing.T) {
 	for range 3000 {
 		p := sample.Program(drawn(r, 300))
 		if r.Intn(2) > 0 {
-			spoil(r, &p)
+			sample.Spoil(drawn(r, 20), &p)
 		}
 		c, depth, effort := r.Intn(5)-2, r.Intn(3), r.Intn(50)
 		if r.Intn(3) == 0 {

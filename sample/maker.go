@@ -79,7 +79,7 @@ func (m *maker) atom(kind, late int) tree.Expr {
 	l := slices.DeleteFunc(slices.Clone(m.now), func(d declared) bool { return d.kind != kind || d.late > late })
 	switch {
 	case len(l) > 0 && !m.often(2):
-		return tree.Expr{Op: "name", S: l[m.choose(len(l))].name}
+		return name(l[m.choose(len(l))].name)
 	case kind == api.Int:
 		return whole(m.choose(128) >> m.choose(8))
 	}

@@ -1,6 +1,7 @@
 package sample
 
 import (
+	"errors"
 	"math/rand"
 	"slices"
 	"testing"
@@ -8,6 +9,7 @@ import (
 	"lustrum/api"
 	"lustrum/flat"
 	"lustrum/order"
+	"lustrum/step"
 	"lustrum/tree"
 )
 
@@ -56,16 +58,93 @@ func TestPrograms(t *testing.T) {
 	}
 }
 
+// TestBools: they are right, without ints, and have as many memories as are asked for.
+func TestBools(t *testing.T) {
+	r := rand.New(rand.NewSource(10))
+	ops := map[string]int{}
+	for n := range 2000 {
+		p := Bools(drawn(r, r.Intn(300)), n%7)
+		m, err := step.New(p, false, 0)
+		if err != nil {
+			t.Fatalf("%v: %v", p, err)
+		}
+		if l := m.State(); len(l) != 1+n%7 || len(p.L) != n%7 || len(p.Out) != n%7 || len(p.Checks) == 0 {
+			t.Fatalf("%d: %v", n, p)
+		}
+		for _, f := range p.L {
+			if f.Kind != api.Bool {
+				t.Fatal(p)
+			}
+			count(f.E, ops)
+		}
+		for _, e := range slices.Concat(p.Asserts, p.Checks) {
+			count(e, ops)
+		}
+	}
+	for _, op := range []string{"name", "true", "false", "not", "and", "or", "xor", "=>", "=", "<>", "->", "fby", "if"} {
+		if ops[op] < 300 {
+			t.Errorf("%s: only %d", op, ops[op])
+		}
+	}
+	if ops["int"]+ops["pre"] > 0 {
+		t.Error(ops)
+	}
+}
+
 func TestFewChoices(t *testing.T) {
 	for n := range 200 {
 		for _, b := range []byte{0, 1, 7, 255} {
-			if err := order.Check(Program(slices.Repeat([]byte{b}, n))); err != nil {
-				t.Errorf("%d times %d: %v", n, b, err)
+			l := slices.Repeat([]byte{b}, n)
+			for _, p := range []flat.Program{Program(l), Bools(l, n%6)} {
+				if err := order.Check(p); err != nil {
+					t.Errorf("%d times %d: %v", n, b, err)
+				}
 			}
 		}
 	}
-	if err := order.Check(Program(nil)); err != nil {
+	for _, p := range []flat.Program{Program(nil), Bools(nil, 0), Bools(nil, 3)} {
+		if err := order.Check(p); err != nil {
+			t.Error(err)
+		}
+	}
+}
+
+// TestSpoil: most programs are wrong then, in several ways.
+func TestSpoil(t *testing.T) {
+	r := rand.New(rand.NewSource(11))
+	count := map[error]int{}
+	for range 2000 {
+		p := Program(drawn(r, 300))
+		Spoil(drawn(r, 20), &p)
+		err := order.Check(p)
+		var f *api.Fault
+		if errors.As(err, &f) {
+			err = f.Err
+		}
+		count[err]++
+	}
+	for _, err := range []error{nil, api.ErrShape, api.ErrType, api.ErrCycle, api.ErrFirst} {
+		if count[err] < 20 || count[err] > 1200 {
+			t.Errorf("%v: %v", err, count)
+		}
+	}
+	p := flat.Program{}
+	Spoil(nil, &p)
+	if err := order.Check(p); err != api.ErrShape {
 		t.Error(err)
+	}
+}
+
+// TestGreat: they are right, however many parts they have.
+func TestGreat(t *testing.T) {
+	for _, n := range []int{0, 1, 60, api.MaxFlat} {
+		p := Divisions(n)
+		if err := order.Check(p); err != nil || len(p.L) != n || len(p.Out) != n || len(p.In) != api.MaxParts {
+			t.Errorf("%d: %v", n, err)
+		}
+		if err := order.Check(Heavy(n % 100)); err != nil {
+			t.Errorf("%d: %v", n, err)
+		}
 	}
 }
 
@@ -101,6 +180,7 @@ func TestOnlyRead(t *testing.T) {
 	before := slices.Clone(l)
 	p := Program(l)
 	Inputs(l, p, 9)
+	Bools(l, 4)
 	if !slices.Equal(l, before) {
 		t.Error("changed")
 	}

@@ -64,7 +64,7 @@ func wrongPrograms(t testing.TB) []wrongProgram {
 	for range api.MaxTerms {
 		long = op("not", long)
 	}
-	inputs := flat.Program{In: append(many(), tree.Var{Name: "more", Kind: api.Bool})}
+	inputs := flat.Program{In: append(sample.Divisions(0).In, tree.Var{Name: "more", Kind: api.Bool})}
 	return []wrongProgram{
 		{flat.Program{Out: []string{"x"}}, -1, api.ErrShape},
 		{flat.Program{L: []flat.Flow{{Name: "x", Kind: 3}}}, -1, api.ErrShape},
@@ -137,13 +137,13 @@ func TestP141Type(t *testing.T) {
 // TestP140Gates: more gates than a graph can have; one division fewer, and it is a program like others.
 func TestP140Gates(t *testing.T) {
 	fits := sort.Search(api.MaxFlat, func(n int) bool {
-		_, err := Make(divisions(n + 1))
+		_, err := Make(sample.Divisions(n + 1))
 		return err != nil
 	})
 	if fits < 100 || fits >= api.MaxFlat {
 		t.Fatalf("%d divisions fit", fits)
 	}
-	p := divisions(fits)
+	p := sample.Divisions(fits)
 	x := newPair(t, p)
 	if n := x.G.Gates(); n > api.MaxGates || n < api.MaxGates*9/10 {
 		t.Errorf("%d gates", n)
@@ -157,7 +157,7 @@ func TestP140Gates(t *testing.T) {
 		t.Errorf("%v, %v", l, err)
 	}
 	for _, n := range []int{fits + 1, api.MaxFlat} {
-		over := divisions(n)
+		over := sample.Divisions(n)
 		refusedMake(t, over, -1, api.ErrBound)
 		refusedRun(t, over, nil, -1, api.ErrBound)
 		refusedRun(t, over, [][]api.Value{in}, -1, api.ErrBound)

@@ -3,7 +3,6 @@ package trans
 import (
 	"math/rand"
 	"slices"
-	"strconv"
 	"testing"
 
 	"lustrum/api"
@@ -92,26 +91,6 @@ func op(s string, l ...tree.Expr) tree.Expr { return tree.Expr{Op: s, L: l} }
 func name(s string) tree.Expr { return tree.Expr{Op: "name", S: s} }
 
 func number(n int) tree.Expr { return tree.Expr{Op: "int", N: n} }
-
-// many inputs, all of them ints: as many as there can be.
-func many() []tree.Var {
-	var l []tree.Var
-	for n := range api.MaxParts {
-		l = append(l, tree.Var{Name: "i" + strconv.Itoa(n), Kind: api.Int})
-	}
-	return l
-}
-
-// divisions: a program of so many, no two of which are of the same two inputs, each of them an output.
-func divisions(n int) flat.Program {
-	p := flat.Program{In: many()}
-	for f := range n {
-		a, b := p.In[f%api.MaxParts].Name, p.In[(f+1+f/api.MaxParts)%api.MaxParts].Name
-		p.L = append(p.L, flat.Flow{Name: "f" + strconv.Itoa(f), Kind: api.Int, E: op("/", name(a), name(b))})
-		p.Out = append(p.Out, p.L[f].Name)
-	}
-	return p
-}
 
 // pair of a program: its gates, and its machine.
 type pair struct {

@@ -9,6 +9,7 @@ import (
 	"lustrum/api"
 	"lustrum/flat"
 	"lustrum/flow"
+	"lustrum/sample"
 	"lustrum/tree"
 )
 
@@ -118,7 +119,7 @@ func TestP1Great(t *testing.T) {
 	p.L[api.MaxFlat-1].E = name("i")
 	ran(t, p, in)
 	// As many gates as there can be, more or less.
-	p = divisions(200)
+	p = sample.Divisions(200)
 	row := make([]api.Value, api.MaxParts)
 	for i := range row {
 		row[i] = whole(i - 100)
